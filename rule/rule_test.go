@@ -510,6 +510,47 @@ func TestParseAnswersFreshMemory(t *testing.T) {
 	wantRules(t, text, []api.Rule{want, want}, 0, api.OK)
 }
 
+// Copy is of any rule, right or not, and what is done with its lists is not seen in the rule, nor the other way.
+func TestCopy(t *testing.T) {
+	for _, was := range []api.Rule{
+		{},
+		{From: [][2]int{}, To: [][2]int{}},
+		{Pass: true, Quick: true, Keep: true, Way: api.Out, Kind: api.Single, Src: api.Prefix{Addr: 1, Len: 32}, Dst: api.Prefix{Len: 4}, From: apart(2), To: apart(3)},
+		{Way: -1, Kind: 99, Src: api.Prefix{Len: -1}, To: [][2]int{{7, 5}, {math.MinInt, math.MaxInt}}},
+	} {
+		r := was
+		r.From, r.To = slices.Clone(was.From), slices.Clone(was.To)
+		got := Copy(r)
+		if !alike([]api.Rule{got}, []api.Rule{was}) {
+			t.Errorf("Copy of %v: got %v", was, got)
+		}
+		spoil := func(l [][2]int) {
+			for i := range l {
+				l[i] = [2]int{-1, -1}
+			}
+			_ = append(l, [2]int{-1, -1})
+		}
+		spoil(got.From)
+		spoil(got.To)
+		if !alike([]api.Rule{r}, []api.Rule{was}) {
+			t.Errorf("%v has become %v by what was done with its Copy", was, r)
+		}
+		got = Copy(r)
+		spoil(r.From)
+		spoil(r.To)
+		if !alike([]api.Rule{got}, []api.Rule{was}) {
+			t.Errorf("the Copy of %v has become %v by what was done with the rule", was, got)
+		}
+	}
+	// One list on both sides becomes two.
+	ports := apart(2)
+	got := Copy(api.Rule{From: ports, To: ports})
+	got.From[0] = [2]int{-1, -1}
+	if !slices.Equal(got.To, apart(2)) {
+		t.Errorf("Copy of a rule with one list on both sides: its To became %v", got.To)
+	}
+}
+
 func FuzzParse(f *testing.F) {
 	for _, c := range written {
 		f.Add(c.line + "\n")
